@@ -30,7 +30,8 @@ func NumInt(i int) Num {
 	if i < 0 {
 		size = -size // As a word, not as an int: the least int has no opposite one.
 	}
-	return Num{Neg: i < 0, Up: natOfWord(size).decimal(), Down: "1"}
+	up := make([]byte, 0, digitRoom(size))
+	return Num{Neg: i < 0, Up: string(natOfWord(size).appendDecimal(up)), Down: "1"}
 }
 
 // isDecimal says whether a text can stand above or below in a number that is ok.
@@ -65,14 +66,33 @@ const (
 )
 
 // powersOfTen has ten to the power of each place in a group, and of the group's size.
+// Only room is told by it; answers come of powerOfTen, so that none hangs on what start-up has done.
 var powersOfTen [groupDigits + 1]uint64
 
 func init() {
-	power := uint64(1)
 	for place := range powersOfTen {
-		powersOfTen[place] = power
+		powersOfTen[place] = powerOfTen(place)
+	}
+}
+
+// powerOfTen is ten to the power of a place in a group, or of the group's size.
+func powerOfTen(place int) uint64 {
+	power := uint64(1)
+	for range place {
 		power *= 10
 	}
+	return power
+}
+
+// digitRoom is how many digits a word has, as far as powersOfTen goes.
+func digitRoom(word uint64) int {
+	digits := 0
+	for _, power := range powersOfTen {
+		if word >= power {
+			digits++
+		}
+	}
+	return digits
 }
 
 // nat is a whole number from nought on: groups of digits, the lowest first, the last one not nought; nought has none.
@@ -92,7 +112,7 @@ func natOfDecimal(digits string) nat {
 	n := make(nat, (len(digits)+groupDigits-1)/groupDigits)
 	for i := range len(digits) {
 		place := len(digits) - 1 - i
-		n[place/groupDigits] += uint64(digits[i]-'0') * powersOfTen[place%groupDigits]
+		n[place/groupDigits] += uint64(digits[i]-'0') * powerOfTen(place%groupDigits)
 	}
 	return n.trim()
 }
@@ -100,22 +120,27 @@ func natOfDecimal(digits string) nat {
 // natOfTens is ten to a power from nought on.
 func natOfTens(power int) nat {
 	n := make(nat, power/groupDigits+1)
-	n[power/groupDigits] = powersOfTen[power%groupDigits]
+	n[power/groupDigits] = powerOfTen(power % groupDigits)
 	return n
 }
 
 func (n nat) decimal() string {
+	return string(n.appendDecimal(nil))
+}
+
+// appendDecimal puts the decimal digits behind others.
+func (n nat) appendDecimal(digits []byte) []byte {
 	if len(n) == 0 {
-		return "0"
+		return append(digits, '0')
 	}
 	top := len(n) - 1
-	digits := strconv.AppendUint(nil, n[top], 10)
+	digits = strconv.AppendUint(digits, n[top], 10)
 	for _, group := range slices.Backward(n[:top]) {
 		for place := groupDigits - 1; place >= 0; place-- {
-			digits = append(digits, '0'+byte(group/powersOfTen[place]%10))
+			digits = append(digits, '0'+byte(group/powerOfTen(place)%10))
 		}
 	}
-	return string(digits)
+	return digits
 }
 
 // trim leaves out the groups at the top that are nought.
@@ -142,6 +167,22 @@ func (n nat) compare(other nat) int {
 	return 0
 }
 
+func (n nat) plus(other nat) nat {
+	sum := make(nat, max(len(n), len(other))+1)
+	carry := uint64(0)
+	for i := range sum {
+		if i < len(n) {
+			carry += n[i]
+		}
+		if i < len(other) {
+			carry += other[i]
+		}
+		sum[i] = carry % groupBase
+		carry /= groupBase
+	}
+	return sum.trim()
+}
+
 // minus takes away another one that is not more.
 func (n nat) minus(other nat) nat {
 	left := slices.Clone(n)
@@ -159,6 +200,20 @@ func (n nat) minus(other nat) nat {
 		left[i] -= take
 	}
 	return left.trim()
+}
+
+func (n nat) times(other nat) nat {
+	product := make(nat, len(n)+len(other))
+	for i, group := range n {
+		carry := uint64(0)
+		for j, by := range other {
+			carry += product[i+j] + group*by
+			product[i+j] = carry % groupBase
+			carry /= groupBase
+		}
+		product[i+len(other)] = carry
+	}
+	return product.trim()
 }
 
 // timesPlus is n so many times, and more; both are less than groupBase.

@@ -59,3 +59,13 @@ func parseAgain(text string, radix int) (impl.Num, bool) {
 	}
 	return numOfRat(new(big.Rat).SetFrac(up, down))
 }
+
+// ratOf is the value of a number that is ok.
+func ratOf(n impl.Num) *big.Rat {
+	text := n.Up + "/" + n.Down
+	if n.Neg {
+		text = "-" + text
+	}
+	value, _ := new(big.Rat).SetString(text)
+	return value
+}
